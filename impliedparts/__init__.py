@@ -1,0 +1,1 @@
+"""Parts of data sets over a small category, and what they imply."""
