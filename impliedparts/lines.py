@@ -30,6 +30,9 @@ class Line:
     def has_instance(self, i):
         return i < INSTANCES
 
+    def is_part_of(self, p, i):
+        return p // PARTS_OF_EACH == i
+
     def share_instance(self, numbers):
         """Whether there are all these parts, and all are of one instance."""
         for p in numbers:

@@ -1,6 +1,6 @@
 """The calls about parts: each answers a list of numbers, a refusal alone."""
 
-from impliedparts.parts import brought_part, implied_part, joined_part, met_part, told_part
+from impliedparts.parts import brought_part, implied_part, joined_part, met_part, not_part, told_part
 from impliedparts.refusals import NO_SUCH_PART, NOT_REFUSED, NOT_RIGHT, UNFIT
 
 
@@ -49,3 +49,10 @@ def call_implies(line, p, q, o):
     if refusal != NOT_REFUSED:
         return [refusal]
     return put_part(line, o, implied_part(line.instance_of(o), line.parts[p], line.parts[q]))
+
+
+def call_not(line, p, o):
+    refusal = refusal_of_parts(line, [p, o])
+    if refusal != NOT_REFUSED:
+        return [refusal]
+    return put_part(line, o, not_part(line.instance_of(o), line.parts[p]))

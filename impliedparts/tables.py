@@ -32,10 +32,12 @@ class Instance:
                 rows.append((x, r))
         return rows
 
+    def led_along(self, f, row):
+        return (self.category.ends[f], self.leads[f][row[1]])
+
     def led_to(self, row):
         """The rows to which this one leads, along each arrow from its thing; itself among them."""
-        category = self.category
-        return [(category.ends[f], self.leads[f][row[1]]) for f in category.arrows_from(row[0])]
+        return [self.led_along(f, row) for f in self.category.arrows_from(row[0])]
 
     def first_gap(self):
         """The first place where it isn't told where a row leads, or where there's no such row."""

@@ -52,6 +52,52 @@ def implies(p, q, o):
     return [10, p, q, o]
 
 
+def negate(p, o):
+    """The call that the document calls not."""
+    return [11, p, o]
+
+
+def forward(p, o):
+    return [12, p, o]
+
+
+def back(p, o):
+    return [13, p, o]
+
+
+def for_all(p, o):
+    """The call that the document calls forAll."""
+    return [14, p, o]
+
+
+def within(p, q):
+    return [15, p, q]
+
+
+def count(i):
+    return [16, i]
+
+
+def nth(p, k):
+    return [17, p, k]
+
+
+def truth(p, x, r):
+    return [18, p, x, r]
+
+
+def sieves(x):
+    return [19, x]
+
+
+def between(p):
+    return [20, p]
+
+
+def shows(p):
+    return [21, p]
+
+
 def seen(p):
     """A call that answers part p and leaves it as it is."""
     return meet(p, p, p)

@@ -3,57 +3,12 @@
 import unittest
 from random import Random
 
+from samples import CATEGORIES, right_instance, right_pair
 from support import (
-    GREATEST, IDEMPOTENT, SWAP, answered, arrow, check, implies, join, lead, make, meet, part, rows, start, way,
+    GREATEST, answered, arrow, back, between, check, count, for_all, forward, implies, join, lead, make, meet, negate,
+    nth, part, rows, shows, sieves, start, truth, way, within,
 )
 from words import Words
-
-TRIANGLE = [start(3), arrow(0, 1), arrow(1, 2), arrow(0, 2), make(3, 4, 5)]
-PARALLEL = [start(2), arrow(0, 1), arrow(0, 1)]
-BACKWARD = [start(2), arrow(1, 0), arrow(1, 0)]
-# 2 from 0 to 1 and 3 back make the things' own.
-THERE_AND_BACK = [start(2), arrow(0, 1), arrow(1, 0), make(2, 3, 0), make(3, 2, 1)]
-# 2 from 0 to 1, 3 back, 4 what 2 and 3 make; 3 and 2 make the thing's own.
-RETRACT = [start(2), arrow(0, 1), arrow(1, 0), arrow(0, 0), make(2, 3, 4), make(3, 2, 1), make(4, 4, 4), make(4, 2, 2),
-           make(3, 4, 3)]
-# Each of the two makes itself with whatever comes behind, or in front.
-FIRST_WINS = [start(1), arrow(0, 0), arrow(0, 0), make(1, 1, 1), make(1, 2, 1), make(2, 1, 2), make(2, 2, 2)]
-LAST_WINS = [start(1), arrow(0, 0), arrow(0, 0), make(1, 1, 1), make(1, 2, 2), make(2, 1, 1), make(2, 2, 2)]
-TURNS = [start(1), arrow(0, 0), arrow(0, 0), make(1, 1, 2), make(1, 2, 0), make(2, 1, 0), make(2, 2, 1)]
-CATEGORIES = (
-    [start(1)], [start(3)], IDEMPOTENT, SWAP, TRIANGLE, PARALLEL, BACKWARD, THERE_AND_BACK, RETRACT, FIRST_WINS,
-    LAST_WINS, TURNS,
-)
-
-
-def told_category(calls):
-    words = Words()
-    for call in calls:
-        words.answer(call)
-    return words
-
-
-def right_instance(pick, before, i, most):
-    """Calls that tell a right instance i of some rows; none if there's none soon found."""
-    words = told_category(before)
-    for attempt in range(300):
-        calls = []
-        left = most
-        for x in range(words.things):
-            k = pick.randint(0, left)
-            left -= k
-            calls.append(rows(i, x, k))
-        for call in calls:
-            words.answer(call)
-        for f in range(words.things, len(words.arrows)):
-            x, y = words.arrows[f]
-            for r in range(words.rows[i][x]):
-                calls.append(lead(i, f, r, pick.randrange(max(1, words.rows[i][y]))))
-        for call in calls:
-            words.answer(call)
-        if words.fault(i) == [0] and sum(words.rows[i]) > 1 and len(calls) <= 12:
-            return calls
-    return []
 
 
 def any_number(pick, least_wrong):
@@ -70,17 +25,56 @@ def any_row(pick, words, i):
     return pick.choice(every)
 
 
-def any_parts(pick, count):
+def any_parts(pick, how_many):
     i = pick.randrange(2)
-    return [any_number(pick, 8) if pick.random() < 0.05 else 4 * i + pick.randrange(4) for k in range(count)]
+    return [any_number(pick, 8) if pick.random() < 0.05 else 4 * i + pick.randrange(4) for k in range(how_many)]
+
+
+def any_brought(pick, words):
+    p = any_parts(pick, 1)[0]
+    return part(p, *[any_row(pick, words, p // 4 % 2) for k in range(pick.choice((0, 1, 1, 1, 2, 3)))])
+
+
+def any_nth(pick, words):
+    p = any_parts(pick, 1)[0]
+    i = p // 4 % 2
+    return nth(p, any_number(pick, len(words.all_parts(i)) if words.right(i) else 8))
+
+
+def any_truth(pick, words):
+    p = any_parts(pick, 1)[0]
+    return truth(p, *any_row(pick, words, p // 4 % 2))
+
+
+def any_along(pick):
+    p, o = pick.randrange(4), 4 + pick.randrange(4)
+    call = pick.choice((forward, back, for_all))
+    if call == back:
+        p, o = o, p
+    if pick.random() < 0.1:
+        p, o = any_number(pick, 8), any_number(pick, 8)
+    return call(p, o)
 
 
 def any_part_call(pick, words):
-    kind = pick.randrange(5)
-    if kind < 2:
-        p = any_parts(pick, 1)[0]
-        return part(p, *[any_row(pick, words, p // 4 % 2) for k in range(pick.choice((0, 1, 1, 1, 2, 3)))])
-    return (meet, join, implies)[kind - 2](*any_parts(pick, 3))
+    return pick.choice((
+        lambda: any_brought(pick, words),
+        lambda: any_brought(pick, words),
+        lambda: any_nth(pick, words),
+        lambda: any_nth(pick, words),
+        lambda: pick.choice((meet, join, implies))(*any_parts(pick, 3)),
+        lambda: pick.choice((meet, join, implies))(*any_parts(pick, 3)),
+        lambda: negate(*any_parts(pick, 2)),
+        lambda: any_along(pick),
+        lambda: any_along(pick),
+        lambda: any_along(pick),
+        lambda: within(*any_parts(pick, 2)),
+        lambda: any_truth(pick, words),
+        lambda: between(*any_parts(pick, 1)),
+        lambda: shows(*any_parts(pick, 1)),
+        lambda: count(any_number(pick, 2)),
+        lambda: sieves(any_number(pick, words.things)),
+    ))()
 
 
 def any_telling_call(pick, words):
@@ -99,10 +93,10 @@ def any_telling_call(pick, words):
 def any_call(pick, words, telling):
     if pick.random() < telling:
         return any_telling_call(pick, words)
-    if pick.random() < 0.1:
+    if pick.random() < 0.05:
         return check(any_number(pick, 2))
     if pick.random() < 0.1:
-        return way(any_number(pick, 8))
+        return way(pick.choice((0, any_number(pick, 8))))
     return any_part_call(pick, words)
 
 
@@ -125,6 +119,16 @@ class AgainstWordsTest(unittest.TestCase):
                     before += right_instance(pick, category, i, 4 + turn % 2)
                 self.compare(pick, before, 0.02)
 
+    def test_parts_along_maps(self):
+        for number, category in enumerate(CATEGORIES):
+            for turn in range(60):
+                pick = Random(200000 + 1000 * number + turn)
+                before = right_pair(pick, category, 3 + turn % 3)
+                before.append(way(pick.choice((0, 0, 1))))
+                for p in (0, 1, 4, 5):
+                    before.append(nth(p, pick.randrange(8)))
+                self.compare(pick, before, 0)
+
     def test_instances_that_are_changed(self):
         for number, category in enumerate(CATEGORIES):
             for turn in range(30):
@@ -142,7 +146,7 @@ class AgainstWordsTest(unittest.TestCase):
         # All ways in which two arrows of one thing can make one another.
         for number in range(81):
             makes = [make(f, g, number // 3 ** (2 * (f - 1) + g - 1) % 3) for f in (1, 2) for g in (1, 2)]
-            calls = [start(1), arrow(0, 0), arrow(0, 0)] + makes + [check(0)]
+            calls = [start(1), arrow(0, 0), arrow(0, 0)] + makes + [check(0), sieves(0), count(0)]
             words = Words()
             self.assertEqual(answered(calls), [words.answer(call) for call in calls])
 

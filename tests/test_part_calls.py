@@ -1,10 +1,10 @@
-"""part, meet, join, implies: what they answer, what they leave, what they refuse (points 2, 4 and 5)."""
+"""part, meet, join, implies, not: what they answer, what they leave, what they refuse (points 2, 4 and 5)."""
 
 import unittest
 
 from support import (
-    GREATEST, IDEMPOTENT, ONE_ARROW, SWAP, answered, arrow, implies, join, last_answer, lead, meet, part, rows, seen,
-    start,
+    GREATEST, IDEMPOTENT, ONE_ARROW, SWAP, answered, arrow, implies, join, last_answer, lead, meet, negate, part, rows,
+    seen, shows, start,
 )
 
 TWO_OF_ONE = (meet, join, implies)
@@ -148,6 +148,70 @@ class ImpliesTest(unittest.TestCase):
         before = FOUR + [part(0, (0, 0), (0, 1)), part(1, (0, 1))]
         for o in (0, 1):
             self.assertEqual(answered(before + [implies(0, 1, o), seen(o)])[-2:], [[3, 0, 1, 0, 2, 0, 3]] * 2)
+
+
+class NotTest(unittest.TestCase):
+    def test_without_arrows_it_is_the_rest(self):
+        for given, told in (
+            ((), [4, 0, 0, 0, 1, 0, 2, 0, 3]), (((0, 1),), [3, 0, 0, 0, 2, 0, 3]),
+            (((0, 0), (0, 3)), [2, 0, 1, 0, 2]), (((0, 0), (0, 1), (0, 2), (0, 3)), [0]),
+        ):
+            self.assertEqual(last_answer(FOUR + [part(0, *given), negate(0, 1)]), told)
+
+    def test_what_leads_into_it_is_out(self):
+        self.assertEqual(last_answer(ONE_ARROW + [part(0, (1, 0)), negate(0, 3)]), [1, 1, 1])
+        self.assertEqual(last_answer(ONE_ARROW + [part(0, (0, 0)), negate(0, 3)]), [1, 1, 1])
+        self.assertEqual(last_answer(ONE_ARROW + [part(0, (1, 1)), negate(0, 3)]), [3, 0, 0, 0, 1, 1, 0])
+        self.assertEqual(last_answer(ONE_ARROW + [part(7, (1, 1)), negate(7, 4)]), [1, 1, 0])
+        self.assertEqual(last_answer(ONE_ARROW + [part(7, (1, 0)), negate(7, 4)]), [2, 0, 0, 1, 1])
+
+    def test_of_none_and_of_all(self):
+        self.assertEqual(answered([negate(0, 1), negate(4, 7)]), [[0], [0]])
+        self.assertEqual(last_answer(ONE_ARROW + [negate(0, 1)]), [4, 0, 0, 0, 1, 1, 0, 1, 1])
+        self.assertEqual(last_answer(ONE_ARROW + [negate(0, 1), negate(1, 2)]), [0])
+        self.assertEqual(last_answer([rows(1, 0, 6), negate(4, 5)]), [6, 0, 0, 0, 1, 0, 2, 0, 3, 0, 4, 0, 5])
+
+    def test_where_rows_lead_to_one_another(self):
+        before = SWAP + [rows(0, 0, 3), lead(0, 1, 0, 1), lead(0, 1, 1, 0), lead(0, 1, 2, 2)]
+        self.assertEqual(last_answer(before + [part(0, (0, 0)), negate(0, 1)]), [1, 0, 2])
+        self.assertEqual(last_answer(before + [part(0, (0, 2)), negate(0, 1)]), [2, 0, 0, 0, 1])
+
+    def test_twice_may_be_more(self):
+        # Rows 0 and 1 of thing 0 lead into the part, and so does all to which they lead.
+        told = answered(ONE_ARROW + [part(0, (1, 0)), negate(0, 1), negate(1, 2), negate(2, 3)])
+        self.assertEqual(told[-3:], [[1, 1, 1], [3, 0, 0, 0, 1, 1, 0], [1, 1, 1]])
+
+    def test_it_is_part_o_then(self):
+        told = answered(FOUR + [part(5, (0, 0), (0, 1)), negate(5, 7), shows(4), shows(5), shows(6), shows(7)])
+        self.assertEqual(told[-5:], [[2, 0, 2, 0, 3], [0], [2, 0, 0, 0, 1], [0], [2, 0, 2, 0, 3]])
+
+    def test_into_itself(self):
+        for p in range(8):
+            self.assertEqual(answered(FOUR + [part(p, (0, 0), (0, 1)), negate(p, p), shows(p)])[-2:],
+                             [[2, 0, 2, 0, 3]] * 2)
+
+    def test_refuses_parts_that_there_are_not(self):
+        for p, o in ((8, 0), (0, 8), (8, 4), (4, 8), (7, 8), (8, 7), (8, 8), (9, 9), (GREATEST, 0), (4, GREATEST)):
+            self.assertEqual(last_answer(FOUR + [negate(p, o)]), [-2])
+
+    def test_refuses_parts_of_two_instances(self):
+        for p, o in ((3, 4), (4, 3), (0, 7), (7, 0), (0, 4), (4, 0)):
+            self.assertEqual(last_answer(FOUR + [negate(p, o)]), [-2])
+        for p, o in ((0, 3), (3, 0), (3, 3), (4, 7), (7, 4), (4, 4)):
+            self.assertEqual(last_answer(FOUR + [negate(p, o)]), [4, 0, 0, 0, 1, 0, 2, 0, 3])
+
+    def test_refuses_what_is_no_category_or_not_right(self):
+        for p in (0, 3, 4, 7):
+            self.assertEqual(last_answer([start(1), arrow(0, 0), negate(p, p)]), [-6])
+        for i in (0, 1):
+            for v in (99, 98, 2):
+                before = ONE_ARROW + [lead(i, 2, 0, v)]
+                self.assertEqual(last_answer(before + [negate(4 * i, 4 * i + 3)]), [-6])
+                self.assertGreater(last_answer(before + [negate(4 - 4 * i, 7 - 4 * i)])[0], 2)
+
+    def test_no_such_part_is_told_before_not_right(self):
+        for p, o in ((8, 0), (0, 8), (0, 4), (4, 0), (GREATEST, GREATEST)):
+            self.assertEqual(last_answer([start(1), arrow(0, 0), negate(p, o)]), [-2])
 
 
 class TwoOfOneTest(unittest.TestCase):

@@ -87,7 +87,7 @@ class WayTest(unittest.TestCase):
 
 
 class ChosenTest(unittest.TestCase):
-    """Which map is chosen shows in no answer of these calls, so it's looked for in the line itself."""
+    """Which map is chosen, as the line itself keeps it."""
 
     def chosen_line(self):
         line = Line()

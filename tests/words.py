@@ -1,5 +1,6 @@
 """The document's words gone through one by one, by trying all there is: slow, and apart from the program."""
 
+from functools import cmp_to_key
 from itertools import product
 
 
@@ -83,6 +84,20 @@ class Words:
                 found.append(some)
         return found
 
+    def comes_first(self, i, one, other):
+        """Below 0 if the one part comes before the other, as the document orders them."""
+        for row in self.all_rows(i):
+            if (row in one) != (row in other):
+                return 1 if row in one else -1
+        return 0
+
+    def ordered_parts(self, i):
+        return sorted(self.all_parts(i), key=cmp_to_key(lambda one, other: self.comes_first(i, one, other)))
+
+    def taken(self):
+        """Where the map chosen takes the rows of instance 0."""
+        return {row: (row[0], number) for row, number in zip(self.all_rows(0), self.chosen)}
+
     def all_maps(self):
         every = self.all_rows(0)
         found = []
@@ -95,12 +110,16 @@ class Words:
                 found.append(list(numbers))
         return sorted(found)
 
-    def put(self, o, some):
-        self.parts[o] = frozenset(some)
+    def told(self, some):
         return [len(some)] + [number for row in sorted(some) for number in row]
 
+    def put(self, o, some):
+        self.parts[o] = frozenset(some)
+        return self.told(some)
+
     def answer(self, call):
-        names = ("start", "arrow", "make", "rows", "set", "check", "way", "part", "meet", "join", "implies")
+        names = ("start", "arrow", "make", "rows", "set", "check", "way", "part", "meet", "join", "implies",
+                 "not", "forward", "back", "for_all", "within", "count", "nth", "truth", "sieves", "between", "shows")
         return getattr(self, "call_" + names[call[0]])(*call[1:])
 
     def call_start(self, n):
@@ -196,3 +215,80 @@ class Words:
         if greatest not in fitting:
             raise AssertionError("there is no greatest one")
         return self.put(o, greatest)
+
+    def greatest_without(self, p):
+        apart = [some for some in self.all_parts(p // 4) if not some & self.parts[p]]
+        return max(apart, key=len)
+
+    def call_not(self, p, o):
+        return [self.refusal(p, o)] if self.refusal(p, o) else self.put(o, self.greatest_without(p))
+
+    def refusal_along(self, p, o, of_p):
+        if p > 7 or o > 7 or p // 4 != of_p or o // 4 == of_p:
+            return -2
+        return -6 if self.chosen is None else 0
+
+    def call_forward(self, p, o):
+        if self.refusal_along(p, o, 0):
+            return [self.refusal_along(p, o, 0)]
+        return self.put(o, {self.taken()[row] for row in self.parts[p]})
+
+    def call_back(self, p, o):
+        if self.refusal_along(p, o, 1):
+            return [self.refusal_along(p, o, 1)]
+        return self.put(o, {row for row, goal in self.taken().items() if goal in self.parts[p]})
+
+    def call_for_all(self, p, o):
+        if self.refusal_along(p, o, 0):
+            return [self.refusal_along(p, o, 0)]
+        return self.put(o, {
+            v for v in self.all_rows(1)
+            if all(row in self.parts[p] for w in self.steps(1, v) for row, goal in self.taken().items() if goal == w)
+        })
+
+    def call_within(self, p, q):
+        if max(p, q) > 7 or p // 4 != q // 4:
+            return [-2]
+        return [1 if self.parts[p] <= self.parts[q] else 0]
+
+    def call_count(self, i):
+        if i > 1:
+            return [-2]
+        return [len(self.all_parts(i))] if self.right(i) else [-6]
+
+    def call_nth(self, p, k):
+        if self.refusal(p):
+            return [self.refusal(p)]
+        found = self.ordered_parts(p // 4)
+        return self.put(p, found[k]) if k < len(found) else [-3]
+
+    def call_truth(self, p, x, r):
+        if self.refusal(p):
+            return [self.refusal(p)]
+        if (x, r) not in self.all_rows(p // 4):
+            return [-1]
+        into = [f for f, (begin, end) in enumerate(self.arrows)
+                if begin == x and (end, self.along(p // 4, f, r)) in self.parts[p]]
+        return [len(into)] + sorted(into)
+
+    def call_sieves(self, x):
+        if not self.category():
+            return [-6]
+        if x >= self.things:
+            return [-1]
+        out = [f for f, (begin, end) in enumerate(self.arrows) if begin == x]
+        closed = 0
+        for bits in product((False, True), repeat=len(out)):
+            some = {f for f, bit in zip(out, bits) if bit}
+            made = {self.compose(f, g) for f in some for g, (begin, end) in enumerate(self.arrows)
+                    if begin == self.arrows[f][1]}
+            closed += made <= some
+        return [closed]
+
+    def call_between(self, p):
+        if self.refusal(p):
+            return [self.refusal(p)]
+        return self.told(set(self.all_rows(p // 4)) - self.parts[p] - self.greatest_without(p))
+
+    def call_shows(self, p):
+        return self.told(self.parts[p]) if p <= 7 else [-2]
