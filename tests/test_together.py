@@ -21,11 +21,6 @@ def part_count(before, i):
     return last_answer(before + [count(i)])[0]
 
 
-def some_numbers(k):
-    """All numbers below k if these are few, else some of them, the first and the last among them."""
-    return sorted(set(range(k)) if k < 7 else {0, 1, k // 3, k // 2, k - 2, k - 1})
-
-
 class LawsTest(unittest.TestCase):
     def setUp(self):
         self.held = 0
@@ -39,7 +34,7 @@ class LawsTest(unittest.TestCase):
     def test_implied_is_the_greatest_part_that_with_the_one_is_in_the_other(self):
         for before in PAIRS:
             for i in (0, 1):
-                numbers = some_numbers(part_count(before, i))
+                numbers = range(part_count(before, i))
                 p, q, r, o = range(4 * i, 4 * i + 4)
                 for a in numbers:
                     for b in numbers:
@@ -53,8 +48,8 @@ class LawsTest(unittest.TestCase):
 
     def test_forward_and_back_are_partners(self):
         for before in PAIRS:
-            for a in some_numbers(part_count(before, 0)):
-                for b in some_numbers(part_count(before, 1)):
+            for a in range(part_count(before, 0)):
+                for b in range(part_count(before, 1)):
                     told = answered(before + [
                         way(0), nth(0, a), nth(4, b), forward(0, 5), within(5, 4), back(4, 1), within(0, 1),
                     ])
@@ -63,8 +58,8 @@ class LawsTest(unittest.TestCase):
 
     def test_back_and_forward_for_all_are_partners(self):
         for before in PAIRS:
-            for a in some_numbers(part_count(before, 0)):
-                for b in some_numbers(part_count(before, 1)):
+            for a in range(part_count(before, 0)):
+                for b in range(part_count(before, 1)):
                     told = answered(before + [
                         way(0), nth(0, a), nth(4, b), back(4, 1), within(1, 0), for_all(0, 5), within(4, 5),
                     ])
@@ -73,13 +68,13 @@ class LawsTest(unittest.TestCase):
 
     def test_not_is_to_imply_the_part_without_rows(self):
         for before in PAIRS:
-            for a in some_numbers(part_count(before, 0)):
+            for a in range(part_count(before, 0)):
                 told = answered(before + [nth(0, a), nth(1, 0), implies(0, 1, 2), negate(0, 3)])
                 self.assertEqual(told[-2], told[-1])
 
     def test_not_the_joined_is_the_nots_met(self):
         for before in PAIRS:
-            numbers = some_numbers(part_count(before, 1))
+            numbers = range(part_count(before, 1))
             for a in numbers:
                 for b in numbers:
                     told = answered(before + [
@@ -91,7 +86,7 @@ class LawsTest(unittest.TestCase):
         left_over = 0
         for before in PAIRS:
             for i in (0, 1):
-                for a in some_numbers(part_count(before, i)):
+                for a in range(part_count(before, i)):
                     p, o = 4 * i, 4 * i + 3
                     told = answered(before + [nth(p, a), negate(p, o), join(p, o, o), between(p)])
                     every = told_words(before).all_rows(i)
